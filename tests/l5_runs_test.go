@@ -477,18 +477,18 @@ func TestP57Done(t *testing.T) {
 
 // roomyActs returns acts with spare capacity behind them, in which a function must not write.
 func roomyActs(acts []impl.Act) []impl.Act {
-	room := make([]impl.Act, len(acts), len(acts)+8)
+	room := slices.Repeat([]impl.Act{{Do: 66, N: 66}}, len(acts)+8)
 	copy(room, acts)
-	return room
+	return room[:len(acts)]
 }
 
 // roomyResults returns results with spare capacity behind them, and behind the coins of each.
 func roomyResults(results []impl.Result) []impl.Result {
-	room := make([]impl.Result, len(results), len(results)+8)
+	room := slices.Repeat([]impl.Result{{Piece: 66}}, len(results)+8)
 	for at, result := range results {
 		room[at] = impl.Result{Done: result.Done, Piece: result.Piece, Out: roomy(result.Out)}
 	}
-	return room
+	return room[:len(results)]
 }
 
 // wholeResults returns a copy of results, and of the coins of each, as long as there is room for them.
