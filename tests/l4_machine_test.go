@@ -103,13 +103,18 @@ func plainSum(p []int, q []int) []int {
 
 // plainActed is Acted of a machine as the document tells it, written down anew for the tests.
 func plainActed(m impl.Machine, a impl.Act) (impl.Machine, impl.Result) {
+	return plainActedWith(plainFewest, m, a)
+}
+
+// plainActedWith is plainActed with change that a function finds.
+func plainActedWith(find plainFinder, m impl.Machine, a impl.Act) (impl.Machine, impl.Result) {
 	after := copyOf(m)
 	switch {
 	case a.Do == 0 && a.N >= 0 && a.N <= 3 && m.In[a.N] < 20:
 		after.In[a.N]++
 		return after, impl.Result{Done: true, Out: []int{0, 0, 0, 0}}
 	case a.Do == 1 && a.N >= 0 && a.N < len(m.Goods):
-		change, ok := plainChange(m, m.Goods[a.N])
+		change, ok := plainChange(find, m, m.Goods[a.N])
 		if !ok {
 			return after, impl.Result{}
 		}
@@ -126,13 +131,16 @@ func plainActed(m impl.Machine, a impl.Act) (impl.Machine, impl.Result) {
 	return after, impl.Result{}
 }
 
-func plainChange(m impl.Machine, good impl.Good) ([]int, bool) {
+// plainFinder finds coins in a purse for an amount.
+type plainFinder func(p []int, amount int) ([]int, bool)
+
+func plainChange(find plainFinder, m impl.Machine, good impl.Good) ([]int, bool) {
 	both := plainSum(m.Own, m.In)
 	left := plainWorth(m.In) - good.Price
 	if good.Stock == 0 || slices.Max(both) > 20 || left < 0 || left > 99 {
 		return nil, false
 	}
-	return plainFewest(both, left)
+	return find(both, left)
 }
 
 // forActs calls a function with machines, all acts, and what comes of them.

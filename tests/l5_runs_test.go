@@ -69,10 +69,15 @@ func deadRun() []impl.Act {
 
 // plainRun is RunOf of a machine as the document tells it, written down anew for the tests.
 func plainRun(m impl.Machine, acts []impl.Act) (impl.Machine, []impl.Result) {
+	return plainRunWith(plainFewest, m, acts)
+}
+
+// plainRunWith is plainRun with change that a function finds.
+func plainRunWith(find plainFinder, m impl.Machine, acts []impl.Act) (impl.Machine, []impl.Result) {
 	m = copyOf(m)
 	var results []impl.Result
 	for _, a := range acts {
-		after, what := plainActed(m, a)
+		after, what := plainActedWith(find, m, a)
 		m, results = after, append(results, what)
 	}
 	return m, results

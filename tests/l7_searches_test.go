@@ -72,6 +72,11 @@ func noDepths() []int {
 // searchedRuns returns all runs of 1 act to 4 out of a choice, from short to long and by number, with what comes of them:
 // each run is one that is an act shorter, with each act of the choice behind it.
 func searchedRuns(m impl.Machine, choice []impl.Act) []toldRun {
+	return searchedRunsWith(plainFewest, m, choice)
+}
+
+// searchedRunsWith is searchedRuns with change that a function finds.
+func searchedRunsWith(find plainFinder, m impl.Machine, choice []impl.Act) []toldRun {
 	type ended struct {
 		run  toldRun
 		last impl.Machine
@@ -82,7 +87,7 @@ func searchedRuns(m impl.Machine, choice []impl.Act) []toldRun {
 		var longer []ended
 		for _, before := range newest {
 			for _, a := range choice {
-				last, what := plainActed(before.last, a)
+				last, what := plainActedWith(find, before.last, a)
 				run := toldRun{append(slices.Clone(before.run.acts), a), append(slices.Clone(before.run.results), what)}
 				longer = append(longer, ended{run, last})
 				runs = append(runs, run)
